@@ -1,0 +1,1 @@
+"""Settings that the closest rules decide."""
