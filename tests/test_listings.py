@@ -170,6 +170,28 @@ class PlusTest(unittest.TestCase):
             Ordered(*TWELVE) + Rules(*THIRTEEN[1:])
 
 
+class ListingTest(unittest.TestCase):
+    """What the two kinds have in common holds for the base class, too, though callers do not make one."""
+
+    def test_the_common_parts(self):
+        listing = Listing(A, B)
+        self.assertEqual((listing.rules, len(listing)), ((A, B), 2))
+        self.assertEqual((A in listing, C in listing, (True, 1) in listing), (True, False, False))
+        self.assertEqual((listing == Listing(A, B), listing == Listing(B, A), listing == (A, B)), (True, False, False))
+        self.assertEqual((listing == Rules(A, B), Ordered(A, B) == listing), (False, False))
+        self.assertEqual(repr(listing), "Listing(2 rules)")
+        self.assertEqual(Listing.read(listing.text()), listing)
+        self.assertRaises(NoRules, Listing, *THIRTEEN)
+
+    def test_plus(self):
+        both = Listing(B, A) + Listing(A, C)
+        self.assertIs(type(both), Listing)
+        self.assertEqual(both.rules, (B, A, C))
+        for thing in OTHER_VALUES:
+            with self.assertRaises(NotRules):
+                Listing(A) + thing
+
+
 class ArgumentsTest(unittest.TestCase):
     def test_arguments_are_not_modified(self):
         for kind in KINDS:
