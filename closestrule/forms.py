@@ -1,6 +1,6 @@
 """The forms of values: what is a number, a condition, a case, a rule, and what is not."""
 
-from closestrule.errors import NoCase
+from closestrule.errors import NoCase, NoNumber, NoRule
 
 MOST_ATTRIBUTE = 4
 MOST_VALUE = 9
@@ -49,3 +49,15 @@ def need_case(thing):
     """Raise NoCase for anything but a case."""
     if not is_case(thing):
         raise NoCase("a case is an ascending tuple of conditions with different attributes")
+
+
+def need_rule(thing):
+    """Raise NoRule for anything but a rule."""
+    if not is_rule(thing):
+        raise NoRule("a rule is a tuple of a case and a result from 0 to 99")
+
+
+def need_number(thing, most):
+    """Raise NoNumber for anything but an integer from 0 to most."""
+    if not is_number(thing, most):
+        raise NoNumber(f"the value is not an integer from 0 to {most}")

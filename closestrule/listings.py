@@ -1,6 +1,6 @@
 """Lists of rules: Rules, in which the closest rules decide, and Ordered, in which the first one does."""
 
-from closestrule.errors import NoRules, NotOrdered, NotRules, TooMany
+from closestrule.errors import NoRules, NotOrdered, NotRules, TooMany, Torn
 from closestrule.forms import MOST_RULES, are_rules, is_rule, need_case
 from closestrule.matching import are_settled, first_result, results_for
 from closestrule.texts import read_rules, write_rules
@@ -166,3 +166,9 @@ def need_ordered(thing):
     """Raise NotOrdered for anything but an Ordered."""
     if not isinstance(thing, Ordered):
         raise NotOrdered("the value is not an Ordered")
+
+
+def need_settled(rules):
+    """Raise Torn for a Rules that is not settled."""
+    if not rules.settled:
+        raise Torn("the list is not settled: some case has two results")

@@ -67,9 +67,10 @@ def opposed_pairs(rules):
 
 def settles(conditions, one, other):
     """Whether a rule with these conditions settles two opposed rules with the conditions one and other."""
-    if not lies_within(conditions, together(one, other)):
+    # Few rules include one of the two, so only for these the two are put together.
+    if not lies_strictly_within(one, conditions) and not lies_strictly_within(other, conditions):
         return False
-    return lies_strictly_within(one, conditions) or lies_strictly_within(other, conditions)
+    return lies_within(conditions, together(one, other))
 
 
 def settling_numbers(rules, i, j):
@@ -85,6 +86,11 @@ def are_settled(rules):
 def by_size(conditions):
     """The key that puts fewer conditions first and sorts equally many in ascending order."""
     return (len(conditions), conditions)
+
+
+def rule_by_size(rule):
+    """The key that puts rules with fewer conditions first and sorts the others in ascending order."""
+    return (len(rule[0]), rule)
 
 
 def cases_that_matter(rules):

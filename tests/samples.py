@@ -55,6 +55,10 @@ WRONG_RULES = OTHER_VALUES + WRONG_CASES + tuple((case, 1) for case in WRONG_CAS
 # Thirteen different rules of several sizes: more than a list takes.
 THIRTEEN = tuple((((0, value),), value) for value in range(10)) + (((), 50), (((1, 1),), 51), (((0, 1), (1, 1)), 52))
 TWELVE = THIRTEEN[:12]
+# Twelve rules of which no two are opposed, in no particular order; each is needed for its result.
+SETTLED_TWELVE = THIRTEEN[12:] + THIRTEEN[4:11] + THIRTEEN[:4]
+# Twelve rules that all give the same, so that one of them is enough.
+LIKE_TWELVE = tuple((((1, value),), 7) for value in range(10)) + (((), 7), (((0, 0), (1, 0)), 7))
 
 
 def wrong_lists(kind):
@@ -145,6 +149,46 @@ def settling_by_definition(rules, i, j):
     one, other = set(rules[i][0]), set(rules[j][0])
     conditions = [set(rule[0]) for rule in rules]
     return [k for k, held in enumerate(conditions) if held <= one | other and (one < held or other < held)]
+
+
+def results_by_definition(rules, case):
+    return tuple(sorted({result for conditions, result in deciding_by_definition(rules, case)}))
+
+
+def first_by_definition(rules, case):
+    matching = [result for conditions, result in rules if set(conditions) <= set(case)]
+    return matching[0] if matching else None
+
+
+def by_size(rules):
+    """The rules with fewer conditions first, ascending among those with equally many."""
+    return tuple(sorted(rules, key=lambda rule: (len(rule[0]), rule)))
+
+
+def settled_lists():
+    return [rules for rules in every_list() if verdict_by_definition(rules)[0] == "settled"]
+
+
+@functools.lru_cache(None)
+def lists_with_results(given):
+    """All settled lists, as sets of rules, with these (case, results) of all cases over a few conditions.
+
+    Each rule of such a list decides for its own conditions, so it gives just the result of this case.
+    """
+    full = [(case, results[0]) for case, results in given if results]
+    sublists = [chosen for size in range(len(full) + 1) for chosen in itertools.combinations(full, size)]
+    return [
+        frozenset(chosen) for chosen in sublists
+        if all(results_by_definition(chosen, case) == results for case, results in given)
+    ]
+
+
+def smallest_by_definition(given):
+    """The rules of the list among them whose rules are among those of each."""
+    found = lists_with_results(given)
+    common = frozenset.intersection(*found)
+    assert common in found
+    return by_size(common)
 
 
 def verdict_by_definition(rules):

@@ -3,7 +3,10 @@
 import unittest
 
 from closestrule import errors
+from closestrule.books import Book, Settled, SettledSmall, Small
 from closestrule.listings import Ordered, Rules
+from closestrule.orders import closest, in_order, never
+from closestrule.smallest import least, same, shows_same
 from closestrule.verdicts import cases, deciding, shows_verdict, verdict
 from tests.samples import THIRTEEN
 
@@ -11,6 +14,7 @@ NAMES = (
     "NoRules", "NoRule", "NoCase", "NoNumber", "NoText", "NotRules", "NotOrdered", "TooMany", "Known", "NotThere",
     "Torn", "NothingDone",
 )
+TORN = Rules(((), 1), ((), 2))
 
 
 class ErrorsTest(unittest.TestCase):
@@ -43,7 +47,30 @@ class ErrorsTest(unittest.TestCase):
             (errors.NotRules, lambda: shows_verdict(1, 1)),
             (errors.NotRules, lambda: list(cases(1))),
             (errors.TooMany, lambda: Rules(*THIRTEEN[:7]) + Rules(*THIRTEEN[7:])),
+            (errors.NotRules, lambda: least(1)),
+            (errors.Torn, lambda: least(TORN)),
+            (errors.NotRules, lambda: same(Rules(), 1)),
+            (errors.Torn, lambda: same(Rules(), TORN)),
+            (errors.NotRules, lambda: shows_same(1, Rules(), 1)),
+            (errors.Torn, lambda: shows_same(TORN, Rules(), 1)),
+            (errors.NotOrdered, lambda: never(1)),
+            (errors.NotRules, lambda: in_order(1)),
+            (errors.Torn, lambda: in_order(TORN)),
+            (errors.NotOrdered, lambda: closest(1)),
+            (errors.TooMany, lambda: closest(Ordered(*[(((at, 0),), at) for at in range(5)]))),
+            (errors.NotRules, lambda: Book(1)),
+            (errors.Torn, lambda: Settled(TORN)),
+            (errors.NoNumber, lambda: Small(Rules(), 13)),
+            (errors.TooMany, lambda: SettledSmall(TORN, 1)),
+            (errors.NoRule, lambda: Book(Rules()).add(1)),
+            (errors.Known, lambda: Book(Rules(((), 1)))(((), 1))),
+            (errors.TooMany, lambda: Book(Rules(*THIRTEEN[:12])).add(THIRTEEN[12])),
+            (errors.NoRule, lambda: Book(Rules()).drop(1)),
+            (errors.NotThere, lambda: Book(Rules()).drop(((), 1))),
+            (errors.NoCase, lambda: Book(Rules()).watch(1)),
+            (errors.NothingDone, lambda: Book(Rules()).undo()),
         )
+        self.assertEqual({kind.__name__ for kind, call in calls}, set(NAMES))
         for kind, call in calls:
             with self.assertRaises(kind) as caught:
                 call()

@@ -13,6 +13,11 @@ BUILTINS = set(
     " TypeError KeyError IndexError LookupError ZeroDivisionError ArithmeticError OverflowError RuntimeError"
     " NotImplementedError AttributeError StopIteration".split()
 )
+BUILTIN_METHODS = set(
+    "append clear copy count endswith extend find get index insert isalnum isalpha isdigit islower isspace isupper items"
+    " join keys ljust lower lstrip partition pop remove replace reverse rfind rjust rpartition rsplit rstrip setdefault"
+    " split splitlines startswith strip update upper values zfill bit_length isascii".split()
+)
 BARRED = re.compile(
     r"\b(type|typing|typing_extensions|enum|Enum|IntEnum|StrEnum|Flag|IntFlag|Generic|Protocol|ABC|ABCMeta|namedtuple"
     r"|NamedTuple|TypedDict|TYPE_CHECKING|abstractmethod)\b|dataclass|overload|contextmanager"
@@ -90,6 +95,15 @@ class LanguageTest(unittest.TestCase):
         for place, node in nodes(ast.Name, ast.arg, ast.Attribute):
             name = getattr(node, "id", None) or getattr(node, "arg", None) or node.attr
             self.assertTrue(name == "__init__" or not name.startswith("_"), place)
+
+    def test_methods_and_attributes_have_different_names(self):
+        methods = {row.name for place, node in nodes(ast.ClassDef) for row in node.body if isinstance(row, ast.FunctionDef)}
+        stored = [(place, node.attr) for place, node in nodes(ast.Attribute) if isinstance(node.ctx, ast.Store)]
+        for place, name in stored:
+            self.assertNotIn(name, methods, place)
+        known = methods | {name for place, name in stored} | BUILTIN_METHODS
+        for place, node in nodes(ast.Attribute):
+            self.assertIn(node.attr, known | {"setter"}, place)
 
     def test_strings(self):
         for place, node in nodes(ast.Constant):
