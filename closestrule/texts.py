@@ -1,7 +1,7 @@
 """The texts of lists of rules, written and read."""
 
 from closestrule.errors import NoText
-from closestrule.forms import MOST_RESULT, are_rules
+from closestrule.forms import MOST_ATTRIBUTE, MOST_RULES, are_rules
 
 
 def write_rule(rule):
@@ -17,10 +17,11 @@ def write_rules(rules):
 
 
 def read_number(word):
-    """The number that is written as this very word, None if there is none up to the largest result."""
-    # Looking the word up accepts one spelling only: int() would take signs, blanks and leading zeros.
-    words = [str(number) for number in range(MOST_RESULT + 1)]
-    return words.index(word) if word in words else None
+    """The number from 0 to 99 that is written as this very word, None if there is none."""
+    # int() takes signs, blanks, leading zeros and digits of other scripts, too; here one spelling counts.
+    if not word.isdigit() or not word.isascii() or len(word) > 2:
+        return None
+    return int(word) if len(word) == 1 or word[0] != "0" else None
 
 
 def read_condition(word):
@@ -34,6 +35,9 @@ def read_rule(line):
     words = line.split(" ")
     if len(words) < 2 or words[-2] != "gives":
         return None
+    # There is no more than one condition for each attribute; longer lines need not be read.
+    if len(words) - 2 > MOST_ATTRIBUTE + 1:
+        return None
     return (tuple([read_condition(word) for word in words[:-2]]), read_number(words[-1]))
 
 
@@ -42,7 +46,9 @@ def read_rules(text):
     if not isinstance(text, str):
         raise NoText("the value is not a text")
     *lines, rest = text.split("\n")
+    if rest != "" or len(lines) > MOST_RULES:
+        raise NoText("the text is not that of at most 12 lines")
     rules = tuple([read_rule(line) for line in lines])
-    if rest != "" or not are_rules(rules):
+    if not are_rules(rules):
         raise NoText("the text is not that of a list of rules")
     return rules

@@ -30,7 +30,7 @@ def state(book):
 def emptied(book):
     """Everything taken back; the states on the way, the last change first."""
     found = []
-    while book.changes > 0:
+    for turn in range(book.changes):
         book.undo()
         found.append(state(book))
     return found
@@ -651,17 +651,9 @@ class ManyChangesTest(BookTestCase):
                         book.undo()
                     raise Stopped
             self.assertEqual(book.changes, 3000)
-            self.assertEqual(len(emptied_quickly(book)), 3000)
+            for turn in range(3000):
+                book.undo()
             self.check(book, (A,))
-
-
-def emptied_quickly(book):
-    """The numbers of changes on the way back to the beginning."""
-    found = []
-    while book.changes > 0:
-        book.undo()
-        found.append(book.changes)
-    return found
 
 
 class OtherValuesTest(BookTestCase):
