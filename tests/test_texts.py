@@ -99,6 +99,8 @@ class ReadTest(unittest.TestCase):
             "1=5 0=3 gives 2\n", "0=3 0=3 gives 2\n", "0=3 0=4 gives 2\n", "gives 2 0=3\n", "gives 1\ngives 1\n",
             "0=3 gives 2\ngives 1\n0=3 gives 2\n", "Rules(4 rules)", "()", "gives \u0663\n", "gives \u00b2\n",
             "gives 1\x0bgives 2\n", "gives 1\x0c", "\u0660=3 gives 1\n", "gives 1\u2028", "x" * 2000, "gives 1\n" * 400,
+            # Python refuses to make numbers of so many digits.
+            "gives " + "9" * 5000 + "\n", "0=" + "9" * 5000 + " gives 1\n", "9" * 5000 + "=0 gives 1\n",
         ):
             self.assertFalse(is_text(text))
             self.check(text)
@@ -163,10 +165,15 @@ class LongTextTest(unittest.TestCase):
     """Readings of long texts are counted in hundreds here: they took more than a thousandth of a second each."""
 
     def hurry(self, call):
-        start = time.perf_counter()
-        for turn in range(500):
-            call()
-        self.assertLess(time.perf_counter() - start, 0.5)
+        # On a busy machine a slow first try tells nothing; the quickest of three does.
+        for attempt in range(3):
+            start = time.perf_counter()
+            for turn in range(500):
+                call()
+            taken = time.perf_counter() - start
+            if taken < 0.3:
+                return
+        self.fail(f"500 readings took {taken} seconds")
 
     def refused(self, kind, text):
         with self.assertRaises(NoText):
